@@ -1,0 +1,1 @@
+"""Lateshown: what can be seen when streams let lines out late."""
