@@ -1,4 +1,6 @@
-"""Plain values: the forms that things have, and tuples for lists."""
+"""Plain values: the forms that things have, tuples for lists, and fractions."""
+
+from math import gcd
 
 
 def is_number(thing):
@@ -16,3 +18,9 @@ def tupled(worth):
     if isinstance(worth, (list, tuple)):
         return tuple([tupled(part) for part in worth])
     return worth
+
+
+def fraction(top, bottom):
+    """The FRACTION of top, from 0, divided by bottom, from 1."""
+    shared = gcd(top, bottom)
+    return top // shared, bottom // shared

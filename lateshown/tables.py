@@ -163,6 +163,11 @@ def table_of(program):
     return tuple(sorted(rows))
 
 
+def told_in(program):
+    """A dict of what is sure of each LINE of the Program, ascending: a dict of numbers by streams."""
+    return told_by(table_of(program))
+
+
 def writes_of(lines):
     """The list of the DEEDs that write these LINEs."""
     return [(WRITE, stream) for stream, _ in lines]
@@ -189,7 +194,7 @@ def flushes_needed(table):
 
 def unsure_pairs(program):
     """The ascending list of the pairs of LINEs, lesser first, of which neither is surely before the other."""
-    told = told_by(table_of(program))
+    told = told_in(program)
     lines = list(told)
     pairs = [(one, other) for place, one in enumerate(lines) for other in lines[place + 1:]]
     return [
@@ -208,7 +213,7 @@ def lost_pair(one, other):
     """A pair of LINEs that is sure in other and not in one; None if there is none; raises OtherLines()."""
     if not have_same_lines(one, other):
         raise OtherLines()
-    told = told_by(table_of(one))
+    told = told_in(one)
     for line, ahead in table_of(other):
         for stream, number in ahead:
             if told[line].get(stream, 0) < number:

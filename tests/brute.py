@@ -2,6 +2,11 @@
 
 from itertools import product
 
+# WRITES of 30 lines, of two streams to five.
+GREAT_WRITES = [tuple(text) for text in (
+    "abcde" * 6, "ab" * 15, "aabbccddee" * 3, "a" * 15 + "b" * 15, "abacadae" * 3 + "edcbae", "a" + "bcde" * 7 + "a",
+    "aaabbbabab" * 3)]
+
 
 def lines_of_counts(counts):
     """The ascending tuple of the LINEs of streams with so many lines."""
@@ -151,3 +156,60 @@ def shows_no_table(rows, one, other, line, far):
         return (line not in lines_in(rows, other) and far in lines_in(rows, other)
                 and far not in lines_in(rows, one))
     return far[0] == line[0] and far[1] < line[1] and far not in lines_in(rows, one)
+
+
+def all_flushes(writes):
+    """All FLUSHes of the WRITES."""
+    return [(moment, stream) for moment in range(len(writes) + 1) for stream in sorted(set(writes))]
+
+
+def is_no_mark(writes, flush):
+    """Whether the FLUSH is idle, in the words of the document."""
+    moment, stream = flush
+    return stream not in writes[:moment] or not [own for own in writes[moment:] if own != stream]
+
+
+def deeds_with(writes, flushes):
+    """The DEEDs that write so, with these FLUSHes, in this order at one moment."""
+    deeds = []
+    for moment in range(len(writes) + 1):
+        deeds.extend(("flush", stream) for at, stream in flushes if at == moment)
+        deeds.extend(("write", stream) for stream in writes[moment:moment + 1])
+    return tuple(deeds)
+
+
+def tables_with(writes, tell):
+    """Of each TABLE that comes of one FLUSH more again and again: the FLUSHes, and the set of the marks.
+
+    tell tells the TABLE of DEEDs.
+    """
+    known = {tell(deeds_with(writes, ())): ()}
+    new = list(known)
+    found = {}
+    for table in new:
+        flushes = known[table]
+        alike = set()
+        for flush in all_flushes(writes):
+            longer = tell(deeds_with(writes, (*flushes, flush)))
+            if longer == table:
+                alike.add(flush)
+            elif longer not in known:
+                known[longer] = (*flushes, flush)
+                new.append(longer)
+        found[table] = flushes, frozenset(flush for flush in alike if not is_no_mark(writes, flush))
+    return found
+
+
+def marks_below(writes, mark):
+    """The set of the marks that stand below this one, by steps from one moment to the next."""
+    flushes = [flush for flush in all_flushes(writes) if not is_no_mark(writes, flush)]
+    steps = set()
+    for moment, stream in flushes:
+        if (moment + 1, stream) in flushes:
+            pair = ((moment, stream), (moment + 1, stream))
+            steps.add(pair if writes[moment] == stream else pair[::-1])
+    lower, many = set(), -1
+    while many < len(lower):
+        many = len(lower)
+        lower |= {low for low, high in steps if high == mark or high in lower}
+    return lower

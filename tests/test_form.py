@@ -29,6 +29,7 @@ DUNDERS = {
     "__init__", "__eq__", "__len__", "__contains__", "__getitem__", "__setitem__", "__iter__", "__add__", "__rshift__",
     "__iadd__", "__str__", "__repr__", "__call__", "__bool__",
 }
+LIBRARY = {"math": {"gcd", "lcm", "isqrt", "comb", "perm", "factorial"}}
 STATEMENTS = (ast.FunctionDef, ast.ClassDef, ast.ImportFrom, ast.Assign)
 
 
@@ -80,7 +81,9 @@ class Files(unittest.TestCase):
             above[path.stem] = set()
             for node in ast.walk(tree):
                 self.assertNotIsInstance(node, ast.Import)
-                if isinstance(node, ast.ImportFrom):
+                if isinstance(node, ast.ImportFrom) and node.module in LIBRARY:
+                    self.check_library(node, tree)
+                elif isinstance(node, ast.ImportFrom):
                     self.check_import(node, tree)
                     above[path.stem].add(node.module.partition(".")[2])
         while above:
@@ -98,6 +101,17 @@ class Files(unittest.TestCase):
         defined |= {part.targets[0].id for part in own.body if isinstance(part, ast.Assign)}
         for alias in node.names:
             self.assertIn(alias.name, defined)
+
+    def check_library(self, node, tree):
+        self.assertIn(node, tree.body)
+        called = {part.func for part in ast.walk(tree) if isinstance(part, ast.Call) and not part.keywords}
+        inside = {part for own in ast.walk(tree) if isinstance(own, ast.FunctionDef) for part in ast.walk(own)}
+        for alias in node.names:
+            self.assertIn(alias.name, LIBRARY[node.module])
+            self.assertIsNone(alias.asname)
+            for part in ast.walk(tree):
+                if isinstance(part, ast.Name) and part.id == alias.name:
+                    self.assertTrue(part in called and part in inside, alias.name)
 
     def test_l3_l15_module_level(self):
         for path, tree in trees():
@@ -173,6 +187,28 @@ class Expressions(unittest.TestCase):
                         if isinstance(sign, (ast.Is, ast.IsNot)):
                             self.assertTrue(isinstance(side, ast.Constant) and side.value in (None, True, False), at)
 
+    def test_l27_exponents_are_literals(self):
+        for path, tree in trees():
+            for node in ast.walk(tree):
+                if isinstance(node, ast.BinOp) and isinstance(node.op, ast.Pow):
+                    self.assertTrue(isinstance(node.right, ast.Constant) and 0 <= node.right.value <= 64, path.name)
+
+    def test_l12_underscores_are_never_read(self):
+        for path, tree in trees():
+            for node in ast.walk(tree):
+                if isinstance(node, ast.Name) and node.id == "_":
+                    self.assertIsInstance(node.ctx, ast.Store, (path.name, node.lineno))
+
+    def test_l5_l25_what_is_reversed_and_sorted(self):
+        for path, tree in trees():
+            for node in ast.walk(tree):
+                if isinstance(node, ast.Call) and isinstance(node.func, ast.Attribute):
+                    self.assertNotEqual(node.func.attr, "sort", path.name)
+                    self.assertFalse(node.func.attr in METHODS and node.keywords, (path.name, node.lineno))
+                if isinstance(node, ast.Call) and isinstance(node.func, ast.Name) and node.func.id == "reversed":
+                    self.assertIn(getattr(getattr(node.args[0], "func", None), "id", None),
+                                  ("list", "tuple", "sorted", "range"), path.name)
+
     def test_l7_what_compares_takes_lists(self):
         for path, tree in trees():
             for node in ast.walk(tree):
@@ -191,7 +227,12 @@ class Expressions(unittest.TestCase):
 
     def places_for_sets(self, node):
         if isinstance(node, ast.Call) and isinstance(node.func, ast.Name) and node.func.id in ("sorted", "len"):
-            yield from node.args
+            for part in node.args:
+                yield part
+                while isinstance(part, ast.BinOp) and isinstance(part.op, (ast.Sub, ast.BitAnd, ast.BitOr, ast.BitXor)):
+                    yield part.right
+                    part = part.left
+                    yield part
         if isinstance(node, ast.Compare):
             yield from node.comparators
         if isinstance(node, ast.Assign):

@@ -17,6 +17,38 @@ FUNCTIONS = {
         "is_table": ("thing",), "table_of": ("program",), "program_of": ("rows",), "flushes_needed": ("table",),
         "unsure_pairs": ("program",), "within": ("one", "other"), "alike": ("one", "other"), "lost_pair": ("one", "other"),
     },
+    "lateshown.outputs": {
+        "is_start": ("program", "thing"), "is_output": ("program", "thing"), "broken_at": ("program", "order"),
+        "schedule": ("program", "output"), "is_schedule": ("program", "output", "thing"),
+        "next_lines": ("program", "lines"), "last_lines": ("program",), "outputs_behind": ("program", "lines"),
+        "how_many_outputs": ("program",), "how_many_sets_seen": ("program",), "output_at": ("program", "number"),
+        "number_of_output": ("program", "order"), "changes_of": ("order",), "fewest_changes": ("program",),
+        "most_changes": ("program",), "with_fewest_changes": ("program",),
+    },
+    "lateshown.places": {
+        "places_of": ("program", "line"), "often_at": ("program", "line"), "mean_place": ("program", "line"),
+        "ahead_often": ("program", "one", "other"), "share_ahead": ("program", "one", "other"),
+        "can_stand_between": ("program", "one", "other"), "between": ("program", "one", "other"),
+        "can_be_neighbours": ("program", "one", "other"), "always_neighbours": ("program", "one", "other"),
+        "sure_heads": ("program",), "pieces": ("program",), "swaps": ("program", "one", "other"),
+        "far_apart": ("program", "one", "other"), "showing": ("program",), "shows_all": ("program", "outputs"),
+    },
+    "lateshown.order": {
+        "is_idle": ("writes", "flush"), "all_marks": ("writes",), "marks": ("program",),
+        "has_mark": ("program", "flush"), "lean": ("program",), "with_marks": ("writes", "flushes"),
+        "bare": ("writes",), "full": ("writes",), "join": ("one", "other"), "meet": ("one", "other"),
+        "middle": ("one", "other", "third"), "rest": ("one", "other"), "allowed": ("one", "other"),
+        "standing": ("one", "other"), "above": ("program",), "below": ("program",), "rank": ("program",),
+        "distance": ("one", "other"), "way": ("one", "other"), "is_way": ("one", "other", "programs"),
+        "parting_mark": ("one", "other"), "output_against": ("program", "flush"),
+    },
+    "lateshown.numbers": {
+        "how_many_tables": ("writes",), "nth_table": ("writes", "number"), "table_number": ("program",),
+        "how_many_surer": ("program",), "how_many_looser": ("program",), "how_many_between": ("one", "other"),
+        "nth_between": ("one", "other", "number"), "of_ranks": ("writes",), "of_flushes": ("writes",),
+        "how_many_ways": ("one", "other"), "how_many_alike": ("program",), "share_with": ("writes", "flush"),
+        "mean_rank": ("writes",),
+    },
 }
 CLASSES = {
     ("lateshown.programs", "Program"): (

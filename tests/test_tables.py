@@ -2,6 +2,7 @@
 
 import unittest
 
+from asking import has_lists, listed
 from lateshown.errors import NoLine, OtherLines
 from lateshown.programs import Program
 from lateshown.tables import (
@@ -17,11 +18,6 @@ ROWS = ((("a", 1), ()), (("a", 2), ()), (("a", 3), (("b", 1),)), (("b", 1), ()),
 GAP = ((("a", 1), ()), (("b", 1), (("a", 1),)), (("b", 2), ()))
 THINGS = (None, True, False, 0, 1, "", "a", Program(), FIRST, [], (None,), (True,), (1,), ("a",), ((),), ((), ()),
           (((), ()),), ((("a", 1),),), (("a", 1),), ("a", 1), [("a", 1), ()], FIRST.lines, FIRST.deeds)
-
-
-def listed(worth):
-    """The same value with lists for tuples."""
-    return [listed(part) for part in worth] if isinstance(worth, tuple) else worth
 
 
 class Examples(unittest.TestCase):
@@ -245,12 +241,10 @@ class GeneralRules(unittest.TestCase):
         self.assertEqual(rows, listed(ROWS))
 
     def test_answers_are_tuples_at_any_depth(self):
-        def lists_in(worth):
-            return isinstance(worth, list) or isinstance(worth, tuple) and any(lists_in(part) for part in worth)
         for ask, named in self.calls():
-            self.assertFalse(lists_in(ask(*[listed(worth) for worth in named.values()])))
-        self.assertFalse(any(lists_in(pair) for pair in unsure_pairs(FIRST)))
-        self.assertFalse(lists_in(table_of(FIRST)) or lists_in(lost_pair(FIRST, SECOND)))
+            self.assertFalse(has_lists(ask(*[listed(worth) for worth in named.values()])))
+        self.assertFalse(any(has_lists(pair) for pair in unsure_pairs(FIRST)))
+        self.assertFalse(has_lists(table_of(FIRST)) or has_lists(lost_pair(FIRST, SECOND)))
 
     def test_programs_by_names(self):
         self.assertEqual(table_of(program=FIRST), TABLE)
