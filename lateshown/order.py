@@ -64,7 +64,7 @@ def flushes_of(program):
     moment = 0
     for word, stream in program.deeds:
         if word == WRITE:
-            moment += 1
+            moment = moment + 1
         else:
             flushes.append((moment, stream))
     return flushes

@@ -213,3 +213,61 @@ def marks_below(writes, mark):
         many = len(lower)
         lower |= {low for low, high in steps if high == mark or high in lower}
     return lower
+
+
+def screens_at(deeds):
+    """Of each place from 0 to how many DEEDs there are: the frozen set of what the screen can show, stopped there."""
+    screens = {()}
+    written = {}
+    found = []
+    for place in range(len(deeds) + 1):
+        screens = with_more_let_out(screens, written)
+        found.append(frozenset(screens))
+        for word, stream in deeds[place:place + 1]:
+            if word == "write":
+                written[stream] = written.get(stream, 0) + 1
+            else:
+                screens = {flushed(out, written, stream) for out in screens}
+    return found
+
+
+def let_out(state, above, stream, many):
+    """The state when the stream of a tree has let out so many of its oldest lines; a state holds the screen by ""."""
+    holds = dict(state)
+    gone, holds[stream] = holds[stream][:many], holds[stream][many:]
+    holds[above[stream]] += gone
+    return tuple(sorted(holds.items()))
+
+
+def with_more_let_out_in(states, above):
+    """All states that come of these when streams of a tree let out lines as they like."""
+    known = set(states)
+    new = list(states)
+    while new:
+        state = new.pop()
+        for stream, lines in state:
+            if stream and lines:
+                after = let_out(state, above, stream, 1)
+                if after not in known:
+                    known.add(after)
+                    new.append(after)
+    return known
+
+
+def outputs_in(tree, deeds):
+    """The frozen set of all OUTPUTs of the DEEDs in the tree."""
+    above = dict(tree)
+    states = {tuple((stream, ()) for stream in ["", *sorted(above)])}
+    written = {}
+    for word, stream in deeds:
+        states = with_more_let_out_in(states, above)
+        if word == "write":
+            written[stream] = written.get(stream, 0) + 1
+            line = ((stream, written[stream]),)
+            states = {tuple((own, lines + line if own == stream else lines) for own, lines in state)
+                      for state in states}
+        else:
+            states = {let_out(state, above, stream, len(dict(state)[stream])) for state in states}
+    many = sum(written.values())
+    ends = [dict(state)[""] for state in with_more_let_out_in(states, above)]
+    return frozenset(out for out in ends if len(out) == many)

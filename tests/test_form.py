@@ -120,13 +120,24 @@ class Files(unittest.TestCase):
                 self.assertTrue(isinstance(node, STATEMENTS) or is_docstring(node), path.name)
                 if isinstance(node, ast.Assign):
                     self.assertEqual(len(node.targets), 1)
-                    ast.literal_eval(node.value)
+                    self.check_value(node.value, tree)
                     names.append(node.targets[0].id)
                 elif isinstance(node, ast.ImportFrom):
                     names.extend(alias.asname or alias.name for alias in node.names)
                 elif not is_docstring(node):
                     names.append(node.name)
             self.assertEqual(sorted(names), sorted(set(names)), path.name)
+
+
+    def check_value(self, value, tree):
+        """A plain value, or a dict of functions that are defined above."""
+        if isinstance(value, ast.Dict) and any(isinstance(part, ast.Name) for part in value.values):
+            above = {node.name for node in tree.body if isinstance(node, ast.FunctionDef) and node.lineno < value.lineno}
+            self.assertLessEqual({part.id for part in value.values}, above)
+            value = ast.Tuple(value.keys)
+        plain = ast.literal_eval(value)
+        for part in plain.values() if isinstance(plain, dict) else plain if isinstance(plain, (list, tuple)) else ():
+            self.assertNotIsInstance(part, (list, dict))
 
 
 class Names(unittest.TestCase):
@@ -239,6 +250,45 @@ class Expressions(unittest.TestCase):
             yield node.value
 
 
+    def test_l23_there_are_no_generators(self):
+        for path, tree in trees():
+            for node in ast.walk(tree):
+                self.assertNotIsInstance(node, (ast.GeneratorExp, ast.Yield, ast.YieldFrom), path.name)
+
+    def test_l6_statements(self):
+        for path, tree in trees():
+            for node in ast.walk(tree):
+                if isinstance(node, ast.stmt):
+                    self.assertIsInstance(node, (
+                        ast.FunctionDef, ast.ClassDef, ast.ImportFrom, ast.Assign, ast.AugAssign, ast.If, ast.While,
+                        ast.For, ast.Return, ast.Break, ast.Raise, ast.Try, ast.Expr), (path.name, node.lineno))
+
+    def test_l4_l7_stars_and_decorators(self):
+        for path, tree in trees():
+            for node in ast.walk(tree):
+                if isinstance(node, ast.Starred):
+                    self.assertIsInstance(node.value, (ast.Name, ast.Attribute), (path.name, node.lineno))
+                if isinstance(node, ast.FunctionDef):
+                    for part in node.decorator_list:
+                        self.assertIn(part.id, ("property", "staticmethod"), path.name)
+                    self.assertEqual((node.returns, node.args.kwarg, node.args.kwonlyargs), (None, None, []), path.name)
+
+    def test_l22_keywords_of_builtins(self):
+        known = {"sorted": {"key", "reverse"}, "min": {"key", "default"}, "max": {"key", "default"}}
+        for path, tree in trees():
+            for node in ast.walk(tree):
+                if isinstance(node, ast.Call) and isinstance(node.func, ast.Name) and node.func.id in BUILTINS:
+                    named = {part.arg for part in node.keywords}
+                    self.assertLessEqual(named, known.get(node.func.id, set()), (path.name, node.lineno))
+
+    def test_l27_strings(self):
+        for path, tree in trees():
+            for node in ast.walk(tree):
+                if isinstance(node, ast.Constant) and isinstance(node.value, str):
+                    self.assertFalse(node.value.endswith(("._", ".__")), path.name)
+                    self.assertNotRegex(node.value, r"\A__|__\Z", path.name)
+
+
 class Classes(unittest.TestCase):
     def test_l5_l18_methods(self):
         for path, tree in trees():
@@ -250,6 +300,50 @@ class Classes(unittest.TestCase):
                     for name in methods:
                         self.assertTrue(name in DUNDERS or not name.startswith("__"), name)
                     self.assertIs("__getitem__" in methods, "__iter__" in methods, node.name)
+
+    def test_l5_operators_and_properties_run_no_sign_that_changes(self):
+        bodies, new = {}, []
+        for _, tree in trees():
+            for node in ast.walk(tree):
+                if isinstance(node, ast.FunctionDef):
+                    bodies.setdefault(node.name, []).append(node)
+                    own = node.name.startswith("__") and node.name not in ("__init__", "__iadd__", "__setitem__")
+                    if own or any(part.id == "property" for part in node.decorator_list):
+                        new.append(node)
+                elif isinstance(node, ast.ClassDef):
+                    # To call a class is to call this.
+                    bodies[node.name] = [part for part in node.body if getattr(part, "name", "") == "__init__"]
+        done = set()
+        while new:
+            node = new.pop()
+            if node in done:
+                continue
+            done.add(node)
+            for part in ast.walk(node):
+                self.assertNotIsInstance(part, (ast.AugAssign, ast.Delete, ast.Try), (node.name, part))
+                if isinstance(part, ast.Call):
+                    new.extend(bodies.get(getattr(part.func, "id", getattr(part.func, "attr", "")), ()))
+        names = {node.name for node in done}
+        self.assertTrue({"is_run", "same_plans", "table_of", "tupled", "numbered", "plan_in"} <= names)
+
+    def test_l28_lengths(self):
+        for path, tree in trees():
+            for node in ast.walk(tree):
+                if isinstance(node, ast.FunctionDef) and node.name == "__len__":
+                    self.assertEqual([part.value.func.id for part in ast.walk(node) if isinstance(part, ast.Return)], ["len"])
+
+    def test_l19_caught_errors_are_own_ones(self):
+        errors = ast.parse((PACKAGE / "errors.py").read_text(encoding="utf-8"))
+        own = {node.name for node in errors.body if isinstance(node, ast.ClassDef)}
+        for path, tree in trees():
+            for node in ast.walk(tree):
+                if isinstance(node, ast.Try):
+                    self.assertEqual((node.finalbody, node.orelse), ([], []), path.name)
+                    caught = [part.name for part in node.handlers if part.name]
+                    self.assertEqual(sorted(caught), sorted(set(caught)), path.name)
+                if isinstance(node, ast.ExceptHandler):
+                    kinds = node.type.elts if isinstance(node.type, ast.Tuple) else [node.type]
+                    self.assertLessEqual({part.id for part in kinds}, own, (path.name, node.lineno))
 
     def test_l19_raised_errors_are_made_on_the_spot(self):
         for path, tree in trees():
